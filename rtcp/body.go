@@ -52,6 +52,9 @@ func (r *reader) take(n int) []byte {
 	return r.body[r.at-n : r.at]
 }
 
+// toWord takes the noughts up to a word, whatever they are: those that ought to be there are a part of the body, too.
+func (r *reader) toWord() { r.take(toWord(r.at) - r.at) }
+
 // short is the number of the next byte.
 func (r *reader) short() uint8 {
 	var b [1]byte

@@ -175,7 +175,7 @@ func (r *reader) chunk() Chunk {
 			c.Name, named = string(text), true
 		}
 	}
-	r.take(toWord(r.at) - r.at)
+	r.toWord()
 	return c
 }
 
@@ -192,7 +192,7 @@ func (b Bye) Put() (Packet, api.Errno) {
 	return Packet{Count: uint8(len(b.Sources)), Kind: BYE, Body: body}, api.OK
 }
 
-// OfBye is what a BYE tells. The noughts behind a reason may be missing: no length asks for them.
+// OfBye is what a BYE tells.
 func OfBye(p Packet) (Bye, api.Errno) {
 	if p.Kind != BYE {
 		return Bye{}, api.ErrKind
@@ -204,8 +204,9 @@ func OfBye(p Packet) (Bye, api.Errno) {
 	}
 	if r.left() > 0 {
 		b.Reason = string(r.take(int(r.short())))
+		r.toWord()
 	}
-	if r.failed || len(p.Body) > toWord(r.at) {
+	if r.failed || r.left() > 0 {
 		return Bye{}, api.ErrItem
 	}
 	return b, api.OK

@@ -410,9 +410,17 @@ func TestOfBye(t *testing.T) { // P6.4
 		{"a byte behind noughts", 0, "01610000 00", Bye{}, api.ErrItem},
 		{"a word behind an empty reason", 1, "00000001 00000000 00000000", Bye{}, api.ErrItem},
 		{"a reason of two sources, told as one's", 1, "00000001 00000002 03616263", Bye{}, api.ErrItem},
-		{"the noughts are missing", 0, "0161", Bye{Reason: "a"}, api.OK},
-		{"a nought is missing", 1, "00000001 016100", Bye{[]uint32{1}, "a"}, api.OK},
-		{"a length alone", 1, "00000001 00", Bye{Sources: []uint32{1}}, api.OK},
+		{"the noughts are missing", 0, "0161", Bye{}, api.ErrItem},
+		{"the noughts are missing, behind a source", 1, "00000001 0161", Bye{}, api.ErrItem},
+		{"a nought is missing", 1, "00000001 016100", Bye{}, api.ErrItem},
+		{"all noughts of a word are missing", 1, "00000001 04616263 64", Bye{}, api.ErrItem},
+		{"one of a word's is missing", 1, "00000001 04616263 640000", Bye{}, api.ErrItem},
+		{"a length alone", 1, "00000001 00", Bye{}, api.ErrItem},
+		{"a length alone, no source", 0, "00", Bye{}, api.ErrItem},
+		{"an empty reason, a nought is missing", 1, "00000001 000000", Bye{}, api.ErrItem},
+		{"a reason of 254, and a nought", 0, "FE" + reason(254) + "00", Bye{Reason: strings.Repeat("a", 254)}, api.OK},
+		{"a reason of 254, and none", 0, "FE" + reason(254), Bye{}, api.ErrItem},
+		{"a reason of 252, a nought is missing", 0, "FC" + reason(252) + "0000", Bye{}, api.ErrItem},
 	} {
 		b, e := OfBye(Packet{Count: x.count, Kind: BYE, Body: unhex(t, x.text), Pad: 7})
 		if e != x.e || !sameBye(b, x.want) || e != api.OK && !nothing(b) {
@@ -490,6 +498,56 @@ func TestOfAnyChunks(t *testing.T) { // P6.4
 	}
 }
 
+// plainOfBye reads a BYE's body by other means than the program's: it is whole words, and there is no other way to end.
+func plainOfBye(count int, body []byte) (b Bye, ok bool) {
+	if len(body)%4 != 0 || len(body) < 4*count {
+		return Bye{}, false
+	}
+	for i := range count {
+		b.Sources = append(b.Sources, binary.BigEndian.Uint32(body[4*i:]))
+	}
+	behind := body[4*count:]
+	if len(behind) == 0 {
+		return b, true
+	}
+	words := 1
+	for 4*words < 1+int(behind[0]) {
+		words++
+	}
+	if len(behind) != 4*words {
+		return Bye{}, false
+	}
+	b.Reason = string(behind[1 : 1+int(behind[0])])
+	return b, true
+}
+
+func TestOfAnyBye(t *testing.T) { // P6.4
+	rnd := rand.New(rand.NewSource(7))
+	told, broken := 0, 0
+	for range 200000 {
+		count := rnd.Intn(4)
+		body := someBytes(rnd, rnd.Intn(4*count+16))
+		if len(body) > 4*count {
+			body[4*count] = byte(rnd.Intn(12))
+		}
+		p := Packet{Count: uint8(count), Kind: BYE, Body: body}
+		want, ok := plainOfBye(count, body)
+		b, e := OfBye(p)
+		if !sameBye(b, want) || ok != (e == api.OK) || !ok && (e != api.ErrItem || !nothing(b)) {
+			t.Fatalf("%+v: %+v, %d; want %+v, %v", p, b, e, want, ok)
+		}
+		if ok && want.Reason != "" {
+			told++
+		}
+		if len(body) > 4*count && len(body)%4 != 0 {
+			broken++
+		}
+	}
+	if told < 1000 || broken < 1000 {
+		t.Errorf("%d told, %d no whole words: too few to tell", told, broken)
+	}
+}
+
 func TestTellersOnlyRead(t *testing.T) { // P6.5
 	rnd := rand.New(rand.NewSource(6))
 	s, r, b := someSender(rnd), someReceiver(rnd), Bye{[]uint32{1, 2, 3}, "abc"}
@@ -549,8 +607,8 @@ func FuzzTellers(f *testing.F) { // P6.4, P6.6: no packet panics, and what is to
 			}
 		}
 		if b, e := OfBye(p); e == api.OK {
-			if _, e := b.Put(); (e == api.OK) != (count < 32) {
-				t.Errorf("%+v, %d", b, e)
+			if q, e := b.Put(); (e == api.OK) != (count < 32) || len(q.Body) > len(body) || len(body)%4 != 0 {
+				t.Errorf("%+v, %+v, %d", b, q, e)
 			}
 		}
 	})
